@@ -40,10 +40,8 @@ def imported_names(tree):
 
 class Form(unittest.TestCase):
     def each(self):
-        for path in FILES:
-            text = path.read_text(encoding="utf-8")
-            with self.subTest(file=path.name):
-                yield path, text, ast.parse(text)
+        texts = [(path, path.read_text(encoding="utf-8")) for path in FILES]
+        return [(path, text, ast.parse(text)) for path, text in texts]
 
     def test_files(self):
         self.assertIn("__init__.py", [path.name for path in FILES])
