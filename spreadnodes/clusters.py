@@ -1,29 +1,10 @@
-"""Clusters of nodes, and the answers to a list of calls."""
+"""The answers to a list of calls, with the two objects that the calls speak of."""
 
+from spreadnodes.cluster_calls import build, edit, look, lose, mend, node_rows, read, spoil, state
 from spreadnodes.code_calls import again, agree, change, judge, part, store, tell, wrong
-from spreadnodes.codes import Code, document_bytes, is_code
+from spreadnodes.codes import Code
 from spreadnodes.listing import call_at
-from spreadnodes.refusals import NO_SUCH, UNFIT
-from spreadnodes.spreading import rows_of_node, square_of
-
-
-class Cluster:
-    """A code, and for each of its nodes the rows that the node has."""
-
-    def __init__(self, code, held):
-        self.code = code
-        self.held = held
-
-
-def build(clusters, which, code, document):
-    """Put a cluster of all the code's nodes in the place of that object."""
-    if which >= len(clusters) or not is_code(code):
-        return [NO_SUCH]
-    if len(document) != document_bytes(code):
-        return [UNFIT]
-    square = square_of(code, document)
-    clusters[which] = Cluster(code, [rows_of_node(square, node) for node in range(code.n)])
-    return [0]
+from spreadnodes.refusals import NO_SUCH, NOT_BUILT
 
 
 def code_from(whole, start):
@@ -53,11 +34,39 @@ def answer_of_code(call):
     return wrong(code, lists[0], lists[1])
 
 
+def answer_of_cluster(cluster, call):
+    """The answer to a call that is asked of a built cluster; what it changes, it changes there."""
+    whole = call.whole
+    lists = call.lists
+    if call.number == 9:
+        return state(cluster)
+    if call.number == 10:
+        return node_rows(cluster, whole[1])
+    if call.number == 11:
+        return lose(cluster, whole[1])
+    if call.number == 12:
+        return spoil(cluster, whole[1], whole[2], lists[0])
+    if call.number == 13:
+        return mend(cluster, whole[1], lists[0])
+    if call.number == 14:
+        return edit(cluster, whole[1], lists[0])
+    if call.number == 15:
+        return read(cluster, lists[0])
+    return look(cluster)
+
+
 def answer_to(clusters, call):
     """The answer to any call; what it changes, it changes in the clusters."""
     if call.number < 8:
         return answer_of_code(call)
-    return build(clusters, call.whole[0], code_from(call.whole, 1), call.lists[0])
+    which = call.whole[0]
+    if call.number == 8:
+        return build(clusters, which, code_from(call.whole, 1), call.lists[0])
+    if which >= len(clusters):
+        return [NO_SUCH]
+    if clusters[which] is None:
+        return [NOT_BUILT]
+    return answer_of_cluster(clusters[which], call)
 
 
 def answers(calls):

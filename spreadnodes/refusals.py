@@ -3,6 +3,7 @@
 from spreadnodes.codes import is_code
 
 NO_SUCH = -1
+NOT_BUILT = -3
 NOT_LET = -4
 UNFIT = -5
 APART = -9

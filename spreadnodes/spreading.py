@@ -96,11 +96,14 @@ def are_agreeing(code, i, j, rows_i, rows_j):
     return part_for(code, j, rows_i) == part_for(code, i, rows_j)
 
 
+def alone_at(at, row, count):
+    """So many rows, all of noughts but this row, which stands there."""
+    return [0] * (at * len(row)) + row + [0] * ((count - at - 1) * len(row))
+
+
 def changed_rows(code, node, rows, i, difference):
     """The node's rows once the document's row i is other by the difference."""
-    before = [0] * (i * code.width)
-    behind = [0] * ((document_rows(code) - i - 1) * code.width)
-    document = before + difference + behind
+    document = alone_at(i, difference, document_rows(code))
     return plus(rows, rows_of_node(square_of(code, document), node))
 
 

@@ -6,6 +6,7 @@ Codes are tuples (k, d, n, len), rows lists of bytes. Nothing here is drawn from
 from spreadnodes.clusters import answers
 
 JUDGE, STORE, TELL, PART, AGAIN, AGREE, CHANGE, WRONG, BUILD = range(9)
+STATE, NODE, LOSE, SPOIL, MEND, EDIT, READ, LOOK = range(9, 17)
 
 
 def listed(number, whole, *lists):
@@ -27,9 +28,18 @@ def parted(given):
     return found
 
 
+def asked_all(calls):
+    """The answers to calls in one list; each call is (number, whole, list, ..)."""
+    numbers = [number for call in calls for number in listed(*call)]
+    assert len(calls) <= 300 and len(numbers) <= 30000
+    found = parted(answers(numbers))
+    assert len(found) == len(calls)
+    return found
+
+
 def asked(number, whole, *lists):
     """The answer to one call alone."""
-    (answer,) = parted(answers(listed(number, whole, *lists)))
+    (answer,) = asked_all([(number, whole, *lists)])
     return answer
 
 

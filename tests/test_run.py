@@ -1,8 +1,10 @@
-"""The run that DOC.md shows, as far as the calls 0 to 8 go."""
+"""The run that DOC.md shows, whole, and its ends."""
 
 import unittest
 
-from tests.reference import AGAIN, AGREE, BUILD, JUDGE, PART, STORE, TELL, WRONG, asked
+from spreadnodes.clusters import answers
+from tests.reference import AGAIN, AGREE, BUILD, JUDGE, LOOK, LOSE, MEND, NODE, PART, READ, SPOIL, STATE, STORE, TELL
+from tests.reference import WRONG, asked, asked_all
 
 CODE = [2, 3, 5, 1]
 DOCUMENT = [1, 2, 3, 4, 5]
@@ -34,12 +36,37 @@ class Run(unittest.TestCase):
         self.assertEqual(asked(AGREE, CODE + [0, 1], NODES[0], spoilt), [0])
         self.assertEqual(asked(AGREE, CODE + [0, 1], NODES[0], NODES[1]), [1])
 
-    def test_built(self):
-        self.assertEqual(asked(BUILD, [0] + CODE, DOCUMENT), [0])
+    def test_built_lost_mended_spoilt_in_one_list(self):
+        run = [
+            ((BUILD, [0] + CODE, DOCUMENT), [0]),
+            ((LOSE, [0, 2]), [0]),
+            ((STATE, [0]), [0, 2, 3, 5, 1, 0, 1, 3, 4]),
+            ((MEND, [0, 2], [0, 1, 3]), [0]),
+            ((NODE, [0, 2]), [0, 0x08, 0x1F, 0x0C]),
+            ((LOOK, [0]), [0]),
+            ((SPOIL, [0, 1, 0], [0x01]), [0]),
+            ((LOOK, [0]), [1, 1]),
+        ]
+        self.assertEqual(asked_all([call for call, _ in run]), [answer for _, answer in run])
+
+    def test_built_has_the_five_nodes(self):
+        given = asked_all([(BUILD, [1] + CODE, DOCUMENT)] + [(NODE, [1, node]) for node in range(5)])
+        self.assertEqual(given[1:], [[0] + rows for rows in NODES])
+
+    def test_as_numbers(self):
+        calls = [8, 0, 2, 3, 5, 1, 5, 1, 2, 3, 4, 5, 11, 0, 2, 9, 0, 13, 0, 2, 3, 0, 1, 3, 10, 0, 2, 12, 0, 1, 0, 1, 1, 16, 0]
+        given = [1, 0, 1, 0, 9, 0, 2, 3, 5, 1, 0, 1, 3, 4, 1, 0, 4, 0, 8, 31, 12, 1, 0, 2, 1, 1]
+        self.assertEqual(answers(calls), given)
 
     def test_ends(self):
         self.assertEqual(asked(JUDGE, [0, 1, 2, 1]), [-1])
+        self.assertEqual(asked(BUILD, [0, 0, 1, 2, 1], [0]), [-1])
         self.assertEqual(asked(TELL, CODE, [1], NODES[1]), [-5])
+        self.assertEqual(asked_all([(BUILD, [0] + CODE, DOCUMENT), (READ, [0], [1])])[1], [-5])
+        self.assertEqual(asked(NODE, [0, 2]), [-3])
+        self.assertEqual(asked(NODE, [1, 2]), [-3])
+        self.assertEqual(asked(NODE, [2, 2]), [-1])
+        self.assertEqual(asked(STATE, [2]), [-1])
         self.assertEqual(asked(BUILD, [2] + CODE, DOCUMENT), [-1])
 
 
