@@ -61,13 +61,17 @@ def likely_document(code, nodes, held):
     return document
 
 
+def nodes_apart(code, nodes, held, document):
+    """The nodes whose rows are not those that the document gives them."""
+    square = square_of(code, document)
+    return [node for node, rows in zip(nodes, held) if rows_of_node(square, node) != rows]
+
+
 def told_document(code, nodes, held):
     """The document of k nodes or more, held being each one's rows; None if they don't go together."""
     document = likely_document(code, nodes[:code.k], held[:code.k])
-    square = square_of(code, document)
-    for node, rows in zip(nodes, held):
-        if rows_of_node(square, node) != rows:
-            return None
+    if len(nodes_apart(code, nodes, held, document)) > 0:
+        return None
     return document
 
 
@@ -108,11 +112,16 @@ def changed_rows(code, node, rows, i, difference):
 
 
 def wrong_nodes(code, nodes, held):
-    """The nodes, of k + 2 or more, without which the others go together."""
+    """The nodes, of k + 2 or more that don't go together, without which the others do.
+
+    Whichever node of a group is left out, k others at least stand outside the group, and tell the one document that
+    all the others can have. So one document does for a whole group, and groups are as large as that lets them be.
+    """
     wrong_ones = []
-    for at, node in enumerate(nodes):
-        others = nodes[:at] + nodes[at + 1:]
-        held_there = held[:at] + held[at + 1:]
-        if told_document(code, others, held_there) is not None:
-            wrong_ones.append(node)
+    for group in cut(nodes, len(nodes) - code.k):
+        outside = [at for at, node in enumerate(nodes) if node not in group][:code.k]
+        document = likely_document(code, [nodes[at] for at in outside], [held[at] for at in outside])
+        apart = nodes_apart(code, nodes, held, document)
+        if len(apart) == 1 and apart[0] in group:
+            wrong_ones.append(apart[0])
     return wrong_ones
