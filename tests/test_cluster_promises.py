@@ -111,7 +111,7 @@ class MadeAgain(Promises):
 
 class Together(Promises):
     def test_read_just_if_some_document_has_the_rows(self):
-        for code in ALL_CODES[::3] + LARGEST:
+        for code in ALL_CODES:
             held = Held(code)
             rows = {f: held.rows(f)[1:] for f in range(held.n)}
             spoils = [held.spoil(f) for f in held.chance.sample(range(held.n), min(2, held.n - 1))]
@@ -168,7 +168,7 @@ class AgreedAndChanged(Promises):
                 self.hold(code, [(held.build, [0]), ((EDIT, [0, i], e), [0])] + list(zip(held.nodes(), due)))
 
     def test_edited_nodes_agree(self):
-        for code in ALL_CODES[::4] + LARGEST:
+        for code in ALL_CODES:
             held = Held(code)
             given = asked_all([held.build] + [held.edit() for _ in range(3)] + held.nodes())
             rows = [answer[1:] for answer in given[-held.n:]]
@@ -203,7 +203,7 @@ class WrongOne(Promises):
             self.hold(code, pairs + [((LOOK, [0]), [0]), ((LOSE, [0, left[0]]), [0]), ((LOOK, [0]), [-5])])
 
     def test_spoilt_in_all_its_rows(self):
-        for code in ALL_CODES[::4] + LARGEST:
+        for code in ALL_CODES:
             held = Held(code)
             if held.n < held.k + 2:
                 continue
